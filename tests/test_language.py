@@ -1,0 +1,106 @@
+"""LANGUAGE.md, as far as a short look at the files of the package tells."""
+
+import ast
+import builtins
+import glob
+import os
+import unittest
+
+PACKAGE = os.path.join(os.path.dirname(os.path.dirname(os.path.abspath(__file__))), "screwshop")
+ORDER = ["errors", "basics", "wheels", "lines", "bars", "passes", "dials", "motions"]
+LIBRARY = {"math": {"gcd", "lcm", "isqrt", "comb", "perm", "factorial"},
+           "heapq": {"heappush", "heappop", "heapify", "heapreplace", "heappushpop"},
+           "itertools": {"product", "combinations", "permutations"}}
+ALLOWED = set("""len range enumerate zip min max sum abs sorted reversed int str bool list tuple dict set isinstance
+ord repr any all divmod Exception ValueError TypeError KeyError IndexError LookupError ZeroDivisionError
+ArithmeticError OverflowError RuntimeError NotImplementedError AttributeError StopIteration NotImplemented""".split())
+BARRED = (ast.Global, ast.AsyncFunctionDef, ast.Div, ast.GeneratorExp, ast.AnnAssign, ast.Set, ast.Yield)
+
+
+def files():
+    return sorted(glob.glob(os.path.join(PACKAGE, "*.py")))
+
+
+def trees():
+    for path in files():
+        with open(path, encoding="ascii") as text:
+            yield os.path.basename(path)[:-3], ast.parse(text.read())
+
+
+class Language(unittest.TestCase):
+    def test_the_folder_holds_nothing_else(self):
+        held = [name for name in os.listdir(PACKAGE) if name != "__pycache__"]
+        self.assertEqual(sorted(held), [os.path.basename(path) for path in files()])
+
+    def test_sizes_and_signs(self):
+        for path in files():
+            with open(path, encoding="ascii", newline="") as text:
+                lines = text.read().split("\n")
+            with self.subTest(path=path):
+                self.assertLessEqual(len(lines) - 1, 399)
+                self.assertLessEqual(max(map(len, lines)), 120)
+                self.assertTrue(all(" " <= sign <= "~" for line in lines for sign in line))
+
+    def test_functions_are_small(self):
+        for name, tree in trees():
+            for node in ast.walk(tree):
+                if isinstance(node, ast.FunctionDef):
+                    with self.subTest(file=name, function=node.name):
+                        self.assertLessEqual(node.end_lineno - node.lineno + 1, 40)
+
+    def test_files_draw_from_those_ahead_alone(self):
+        for name, tree in trees():
+            for node in ast.walk(tree):
+                self.assertNotIsInstance(node, ast.Import)
+                if isinstance(node, ast.ImportFrom):
+                    with self.subTest(file=name, drawn=node.module):
+                        self.assertEqual(node.level, 0)
+                        self.assertTrue(all(own.asname is None for own in node.names))
+                        self.drawn_from(name, node)
+
+    def drawn_from(self, name, node):
+        if node.module in LIBRARY:
+            self.assertLessEqual({own.name for own in node.names}, LIBRARY[node.module])
+            return
+        folder, _, file = node.module.partition(".")
+        self.assertEqual(folder, "screwshop")
+        self.assertLess(ORDER.index(file), ORDER.index(name))
+
+    def test_all_that_is_drawn_in_is_used(self):
+        for name, tree in trees():
+            drawn = [own.name for node in tree.body if isinstance(node, ast.ImportFrom) for own in node.names]
+            used = {node.id for node in ast.walk(tree) if isinstance(node, ast.Name)}
+            with self.subTest(file=name):
+                self.assertEqual(len(drawn), len(set(drawn)))
+                self.assertLessEqual(set(drawn), used)
+
+    def test_names_are_free(self):
+        for name, tree in trees():
+            drawn = {own.name for node in tree.body if isinstance(node, ast.ImportFrom) for own in node.names}
+            for node in ast.walk(tree):
+                for own in self.bound(node):
+                    with self.subTest(file=name, name=own):
+                        self.assertFalse(hasattr(builtins, own) and own != "__init__")
+                        self.assertNotIn(own, drawn)
+
+    def bound(self, node):
+        if isinstance(node, ast.Name) and isinstance(node.ctx, ast.Store):
+            return [node.id]
+        if isinstance(node, ast.arg):
+            return [node.arg]
+        return [node.name] if isinstance(node, (ast.FunctionDef, ast.ClassDef)) else []
+
+    def test_barred_signs_and_builtins(self):
+        for name, tree in trees():
+            for node in ast.walk(tree):
+                with self.subTest(file=name, line=getattr(node, "lineno", 0)):
+                    self.assertNotIsInstance(node, BARRED)
+                    if isinstance(node, ast.Constant):
+                        self.assertNotIsInstance(node.value, float)
+                        self.assertNotIn("%", str(node.value))
+                    if isinstance(node, ast.Name) and hasattr(builtins, node.id):
+                        self.assertIn(node.id, ALLOWED)
+
+
+if __name__ == "__main__":
+    unittest.main()
