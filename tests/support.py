@@ -23,6 +23,37 @@ INTERFACE = {
         "lead_starts": ["lead", "many", "phase"], "lines_meet": ["one", "other"], "steepness": ["line"],
         "line_through": ["point", "far", "turns"], "turns_made": ["line", "place", "end"],
     },
+    "bars": {
+        "is_bar": ["thing"], "is_plain": ["bar"], "plain_bar": ["bar"], "depth_at": ["bar", "point"],
+        "bar_with": ["bar", "groove"], "bar_cut": ["bar", "start", "end"], "bars_joined": ["one", "other"],
+        "band_of": ["bar"], "rows_of": ["band"], "starts_of": ["band", "lead"],
+        "pitch_of": ["band", "lead"], "alike_told": ["one", "other"], "telling_point": ["one", "other"],
+        "is_telling_point": ["one", "other", "thing"],
+    },
+    "passes": {
+        "is_lathe": ["thing"], "closes_at": ["lathe", "turned", "place"],
+        "next_closing": ["lathe", "turned", "place"], "dial_shows": ["lathe", "turned", "place"],
+        "place_behind": ["lathe", "turned", "place", "t"], "run_out": ["lathe", "turned", "place", "out"],
+        "cut_groove": ["lathe", "cut"], "bar_after": ["lathe", "bar", "cuts"],
+        "start_for": ["lathe", "line", "place"], "unmade": ["lathe", "bar"], "cuts_for": ["lathe", "bar"],
+        "are_cuts_for": ["lathe", "bar", "thing"], "same_cuts": ["lathe", "one", "other"],
+    },
+    "dials": {
+        "closings_apart": ["lathe"], "how_many_lines": ["lathe"], "line_at_count": ["lathe", "count"],
+        "count_of_line": ["lathe", "line"], "first_at_mark": ["lathe", "mark"],
+        "lines_at_mark": ["lathe", "mark"], "safe_marks": ["lathe"], "marks_together": ["lathe", "mark"],
+        "unlike_counts": ["lathe", "mark"], "is_unlike_counts": ["lathe", "mark", "thing"],
+        "dials_that_do": ["lathe", "most"], "dial_for_all": ["lathes"],
+        "wait_for_marks": ["lathe", "turned", "place", "marks"],
+    },
+    "motions": {
+        "is_motion": ["thing"], "is_motions": ["thing"], "motion_put": ["one", "other"],
+        "motion_power": ["motion", "times"], "band_moved": ["band", "motion"],
+        "keeps_band": ["band", "motion"], "unkept": ["band", "motion"], "motions_of": ["band"],
+        "has_motion": ["motions", "motion"], "motions_by": ["steps"], "motions_both": ["near", "far"],
+        "index_of": ["larger", "smaller"], "lines_from": ["motions", "line"],
+        "band_from": ["motions", "band"],
+    },
 }
 
 
@@ -54,7 +85,7 @@ STRANGE = [
     ("ring",), ("ring", 0), ("ring", None), ("ring", "ring"), ("ring", ()), ("ring", (0,)), ("ring", (0, 1), (0, 1)),
     ("flute", 1), ("flute", (1, 1)), ("flute", (-1, 2)), ("lead",), ("lead", (1, 1)), ("lead", (1, 1), 0),
     ("lead", "lead", "lead"), ("lead", (1, 1), (0, 1), (0, 1)), ("all", (), ()), (None, ()), (0, ()), ("loud", ()),
-    ((), True), ((), 1, True), ([], ()), ((0, 1), ()), ((-1, 1), (), ()), (((1, 1),), None), (((1, 1),), 0),
+    ((), 1), ((), 1, True), ([], ()), ((0, 1), ()), ((-1, 1), (), ()), (((1, 1),), None), (((1, 1),), 0),
     ([0, 1], [0, 1]), ((0, 1), [0, 1]), ((0, 1), (0, 1), (0, 1)), ((0, 1), (1, 1)), ((0, 1), None), "((0, 1), ())",
     deep(0, 12, list), deep(0, 12, tuple), deep((0, 1), 11, tuple), deep("ring", 12, tuple), deep((), 11, list),
 ]
