@@ -263,6 +263,12 @@ class Two(unittest.TestCase):
         ring = (("ring", (5, 1)), (5, 1), (5, 1), 1)
         self.check_two(((10 ** 6, 1), tuple(sorted(fine + (ring,)))), ((10 ** 6, 1), tuple(sorted(fine))))
 
+    def test_crossings_where_points_are_looked_for(self):
+        for line, other, length in [(("flute", O), ("lead", ONE, O), THREE), (("lead", ONE, O), ("flute", O), THREE),
+                                    (("lead", ONE, O), ("lead", (-10, 9), O), (30, 19))]:
+            cover = (other, O, length, 20)
+            self.check_two((length, tuple(sorted([cover, (line, O, length, 1)]))), (length, (cover,)))
+
     def test_not_as_long(self):
         for one, other in [(BARE, ((5, 1), ())), (ROD, CROOKED)]:
             self.assertIs(alike_told(one, other), False)

@@ -36,6 +36,8 @@ BANDS = [(), TRIPLE, CROSS, FLUTES, RINGS, PATTERN, TRIPLE[:2], TRIPLE[:1], FLUT
          tuple(sorted((("lead", (-1, 1), phase), depth) for phase, depth in
                       ((O, 1), (HALF, 1), (QUARTER, 2), ((3, 4), 2)))),
          ((("lead", ONE, O), 1), (("lead", ONE, THIRD), 1), (("lead", ONE, HALF), 1), (("lead", ONE, (5, 6)), 1))]
+BANDS.append([(("flute", pair(Fraction(own, 6))), own % 2 + 1) for own in range(6)])
+BANDS.append([(("lead", THREE, pair(Fraction(own, 3))), 1 if own % 3 else 2) for own in range(9)])
 BANDS = [tuple(sorted(band)) for band in BANDS]
 
 
@@ -177,6 +179,7 @@ class Told(unittest.TestCase):
     def test_motions_by(self):
         some = [((O, HALF),), ((O, O),), (), ((ONE, HALF), ((3, 2), QUARTER)), (((-1, 1), THIRD),), (((-1, 2), O), (O, THIRD)),
                 (((-3, 4), THIRD), (O, QUARTER), (HALF, SIXTH)), ((O, QUARTER), (O, SIXTH)), ((ONE, O), (ONE, THIRD)),
+                ((TWO, (1, 5)), (THREE, (1, 5))), ((TWO, (1, 5)), (THREE, (3, 10))), (((-2, 1), THIRD), ((5, 2), SIXTH)),
                 ((ONE, O), (TWO, HALF)), (((2, 3), O), (THREE, (1, 12)), ((5, 4), HALF))]
         for steps in some:
             steps = tuple(sorted(steps))

@@ -249,7 +249,8 @@ class Cuts(unittest.TestCase):
         self.assertIs(are_cuts_for(LATHE, TWICE, (((-4, 3), O, SIX, 2),)), True)
         self.assertIs(are_cuts_for(LATHE, BARE, ()), True)
         self.assertTrue(alike_told(TWICE, plain_bar(TWICE)) and not alike_told(TWICE, BARE))
-        for thing in [good[:1], good + ((ONE, ONE, SIX, 3),), (((1, 7), O, SIX, 2),), (((2, 3), O, (7, 1), 2),),
+        for thing in [good[:1], good + ((ONE, ONE, SIX, 3),), good + (((2, 3), O, O, 1),),
+                      (((1, 7), O, SIX, 2),), (((2, 3), O, (7, 1), 2),),
                       (((2, 3), SIX, (-1, 1), 2),), (((2, 3), O, O, 2),), (((2, 3), O, SIX, 0),), list(good),
                       (((2, 3), O, SIX, True),), (((2, 3), O, SIX),), (((2, 3), O, SIX, 2, 2),), ((2, 3), O, SIX, 2),
                       (((4, 6), O, SIX, 2),), (((2, 3), (0, 2), SIX, 2),), (((2, 3), O, (12, 2), 2),), (), ((),),

@@ -113,6 +113,11 @@ class Boxes(unittest.TestCase):
                          (((20, 35), (25, 40), (30, 45), (55, 50)), False))
         self.assertIsNone(fewest_pairs((1, 1), box, (1, 113)))
 
+    def test_fewest_pairs_are_four_at_most(self):
+        five = (2, 1, 3, 1, 5, 1, 7, 1, 11, 1)
+        self.assertIsNone(fewest_pairs((1, 1), five, (2310, 1)))
+        self.assertEqual(fewest_pairs((1, 1), five, (1, 1155)), 4)
+
 
 if __name__ == "__main__":
     unittest.main()
