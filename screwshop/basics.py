@@ -2,8 +2,12 @@
 
 from math import gcd, lcm
 
+from screwshop.errors import TooMany
+
 ZERO = (0, 1)
 ONE = (1, 1)
+HALF = (1, 2)
+MOST_TOLD = 400
 
 
 def tupled(value):
@@ -117,6 +121,74 @@ def inverse(number, modulus):
         old, new = new, old - multiple * new
         factor, following = following, factor - multiple * following
     return factor % modulus
+
+
+def floor_of(value):
+    """The greatest whole number that is at most value."""
+    return value[0] // value[1]
+
+
+def middle_of(one, other):
+    return multiply(add(one, other), HALF)
+
+
+def first_from(member, step, start):
+    """The least FRACTION from start on that is member but for whole multiples of step."""
+    return add(start, round_by(subtract(member, start), step))
+
+
+def many_within(member, step, low, high):
+    """How many FRACTIONS from low to high are member but for whole multiples of step."""
+    first = first_from(member, step, low)
+    if is_below(high, first):
+        return 0
+    return floor_of(divide(subtract(high, first), size_of(step))) + 1
+
+
+def all_within(member, step, low, high):
+    """The list of these FRACTIONS, ascending by value."""
+    first, apart = first_from(member, step, low), size_of(step)
+    return [add(first, scaled(apart, number)) for number in range(many_within(member, step, low, high))]
+
+
+def times_round(step, wanted):
+    """The least number from 0 such that step times it is wanted but for whole numbers; None if there is none."""
+    number = scaled(wanted, step[1])
+    return number[0] * inverse(step[0], step[1]) % step[1] if is_whole(number) else None
+
+
+def simplest_between(low, high):
+    """Of the FRACTIONS above low and below high the one with the least bottom, of several the least."""
+    whole = (floor_of(low), 1)
+    following = add(whole, ONE)
+    if is_below(following, high):
+        return following
+    # none is whole: what is over the whole is 1 by what is simplest between the inverses
+    under, over = subtract(low, whole), subtract(high, whole)
+    if under == ZERO:
+        return add(whole, (1, floor_of(divide(ONE, over)) + 1))
+    return add(whole, divide(ONE, simplest_between(divide(ONE, over), divide(ONE, under))))
+
+
+def refuse_too_many(many):
+    """TooMany() if these are more than are told."""
+    if many > MOST_TOLD:
+        raise TooMany()
+
+
+def root_of(roots, number):
+    while roots[number] != number:
+        number = roots[number]
+    return number
+
+
+def groups_of(many, pairs):
+    """For each number below many the least one that it hangs together with by these pairs."""
+    roots = list(range(many))
+    for one, other in pairs:
+        near, far = root_of(roots, one), root_of(roots, other)
+        roots[max(near, far)] = min(near, far)
+    return [root_of(roots, number) for number in range(many)]
 
 
 def is_number(thing):

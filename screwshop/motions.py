@@ -91,25 +91,25 @@ def _gap_of_turns(steps):
     return steps[0][1] if steps and steps[0][0] == ZERO else ONE
 
 
-def _fine_of(motions):
+def fine_of(motions):
     return _gap_of_turns(motions[1])[1]
 
 
-def _grid_of(motions):
+def grid_of(motions):
     free, steps = motions
     if free != "none":
         return None
     return steps[-1][0] if steps else ZERO
 
 
-def _rate_of(motions):
+def rate_of(motions):
     free, steps = motions
     if free == "none":
         return divide(steps[-1][1], steps[-1][0]) if steps and steps[-1][0] != ZERO else ZERO
     return ZERO if free == "shifts" else divide(ONE, free)
 
 
-def _told(free, fine, step):
+def motions_told(free, fine, step):
     """The plain form of free, the turn by 1 by fine, and step, STILL without."""
     steps = [] if fine == 1 else [(ZERO, (1, fine))]
     if step != STILL:
@@ -125,10 +125,10 @@ def motions_of(band):
         motions = ("turns", ())
     flutes = [(line[1], depth) for line, depth in band if line[0] == "flute"]
     if flutes:
-        motions = motions_both(motions, _told("shifts", _repeats(flutes), STILL))
+        motions = motions_both(motions, motions_told("shifts", _repeats(flutes), STILL))
     for lead, row in rows_of(band):
         around = [(divide(phase, size_of(lead)), depth) for phase, depth in row]
-        motions = motions_both(motions, _told(lead, _repeats(around), STILL))
+        motions = motions_both(motions, motions_told(lead, _repeats(around), STILL))
     return motions
 
 
@@ -153,12 +153,12 @@ def has_motion(motions, motion):
         return True
     if motions[0] == "turns":
         return shift == ZERO
-    grid = _grid_of(motions)
+    grid = grid_of(motions)
     if grid == ZERO and shift != ZERO:
         return False
     if grid not in (None, ZERO) and not is_multiple(shift, grid):
         return False
-    return is_multiple(subtract(turn, multiply(_rate_of(motions), shift)), (1, _fine_of(motions)))
+    return is_multiple(subtract(turn, multiply(rate_of(motions), shift)), (1, fine_of(motions)))
 
 
 def motions_by(steps):
@@ -167,7 +167,7 @@ def motions_by(steps):
     for shift, turn in tupled(steps):
         step, turned = _without_shift(step, (shift, turn))
         fine = lcm(fine, turned[1])
-    return _told("none", fine, step)
+    return motions_told("none", fine, step)
 
 
 def _without_shift(one, other):
@@ -190,21 +190,21 @@ def motions_both(near, far):
     if far[0] == "all":
         return near
     if near[0] == "turns":
-        return _told("none", _fine_of(far), STILL)
+        return motions_told("none", fine_of(far), STILL)
     if far[0] == "turns":
-        return _told("none", _fine_of(near), STILL)
-    fine = gcd(_fine_of(near), _fine_of(far))
+        return motions_told("none", fine_of(near), STILL)
+    fine = gcd(fine_of(near), fine_of(far))
     grid = _grid_of_both(near, far)
     if grid is None:
-        return _told(near[0], fine, STILL)
-    return _told("none", fine, (grid, _turn_of_both(near, far, grid)))
+        return motions_told(near[0], fine, STILL)
+    return motions_told("none", fine, (grid, _turn_of_both(near, far, grid)))
 
 
 def _grid_of_both(near, far):
     """The grid of those of both."""
-    apart = subtract(_rate_of(near), _rate_of(far))
-    bottom = lcm(_fine_of(near), _fine_of(far))
-    grids = [grid for grid in (_grid_of(near), _grid_of(far)) if grid is not None]
+    apart = subtract(rate_of(near), rate_of(far))
+    bottom = lcm(fine_of(near), fine_of(far))
+    grids = [grid for grid in (grid_of(near), grid_of(far)) if grid is not None]
     if ZERO in grids:
         return ZERO
     if not grids:
@@ -216,9 +216,12 @@ def _grid_of_both(near, far):
 
 def _turn_of_both(near, far, shift):
     """A turn that goes with shift in both."""
-    own, others = _fine_of(near), _fine_of(far)
-    turn = multiply(_rate_of(near), shift)
-    wanted = multiply(_rate_of(far), shift)
+    turn, wanted = multiply(rate_of(near), shift), multiply(rate_of(far), shift)
+    return common_turn(turn, fine_of(near), wanted, fine_of(far))
+
+
+def common_turn(turn, own, wanted, others):
+    """What is turn but for whole multiples of 1 by own, and wanted but for those of 1 by others."""
     bottom = lcm(own, others)
     number = scaled(subtract(wanted, turn), bottom)[0]
     steps = number * inverse(bottom // own, bottom // others)
@@ -234,8 +237,8 @@ def index_of(larger, smaller):
         return 1
     if larger[0] in ("all", "turns"):
         return None
-    grid, coarse = _grid_of(larger), _grid_of(smaller)
-    finer = _fine_of(larger) // _fine_of(smaller)
+    grid, coarse = grid_of(larger), grid_of(smaller)
+    finer = fine_of(larger) // fine_of(smaller)
     if grid == coarse:
         return finer
     if grid is None or coarse == ZERO:
@@ -263,11 +266,11 @@ def _many_lines(motions, line):
     """To how many LINES they lead line; None without end."""
     free = motions[0]
     if line[0] == "ring":
-        return 1 if free == "turns" or _grid_of(motions) == ZERO else None
+        return 1 if free == "turns" or grid_of(motions) == ZERO else None
     if free in ("all", "turns"):
         return None
-    grid, fine = _grid_of(motions), _fine_of(motions)
-    drift = subtract(_rate_of(motions), steepness(line))
+    grid, fine = grid_of(motions), fine_of(motions)
+    drift = subtract(rate_of(motions), steepness(line))
     if grid is None:
         return fine if drift == ZERO else None
     return lcm(fine, multiply(drift, grid)[1])

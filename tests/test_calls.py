@@ -6,7 +6,9 @@ import unittest
 
 from tests.support import INTERFACE, has_list, listed
 
-LISTS = ["rows_of", "dials_that_do"]
+LISTS = ["rows_of", "dials_that_do", "stays_of", "half_closings", "plate_stands", "crossings_between", "crossing_angles",
+         "at_place", "meetings_on", "all_meetings", "lands_of", "goes_along", "neighbours_of", "corners_of", "land_rows",
+         "crossing_depths", "join_rows"]
 
 LEAD, LEFT, RING, FLUTE = ("lead", (1, 2), (1, 8)), ("lead", (-1, 2), (1, 8)), ("ring", (1, 4)), ("flute", (1, 2))
 TRAIN, BOX = (((20, 40), (30, 60)), True), (20, 30, 40, 60)
@@ -26,6 +28,23 @@ FLUTES, RINGS = ((("flute", (0, 1)), 1), (("flute", (1, 2)), 1)), ((("ring", (0,
 ALL, TURNS, SLID = ("all", ()), ("turns", ()), ("shifts", (((0, 1), (1, 2)),))
 ALONG, STEPS = ((3, 1), (((0, 1), (1, 3)),)), ("none", (((0, 1), (1, 3)), ((1, 2), (1, 4))))
 MOTION, MOTION_ON = ((1, 4), (1, 2)), ((-5, 3), (2, 3))
+O, HALF, ONE, TWO, THREE, FOUR = (0, 1), (1, 2), (1, 1), (2, 1), (3, 1), (4, 1)
+STRAIGHT, LATE, SIDE = ("lead", ONE, O), ("lead", ONE, HALF), ("lead", (-1, 1), O)
+PAIR, PAIR_ON = ((SIDE, 1), (STRAIGHT, 2)), ((SIDE, 1), (LATE, 2))
+SCREW, PART = (THREE, ((STRAIGHT, O, THREE, 1),)), (THREE, ((STRAIGHT, O, THREE, 1), (LATE, O, TWO, 2)))
+ONE_TOOTH, TWO_TEETH = (ONE, (O,), 1), (ONE, (O, HALF), 1)
+BACKWARD, SIDE_BAR = ((-1, 1), (O,), 1), (THREE, ((SIDE, O, TWO, 3),))
+SLIDE, STAND, BAD_STAND = ("slide", (-1, 1)), ((O, O), (ONE, O)), ((O, (1, 3)), (ONE, O))
+TIED = (PART, ONE_TOOTH, SIDE_BAR, BACKWARD, SLIDE, STAND)
+LOCKED = (PART, ONE_TOOTH, SIDE_BAR, BACKWARD, ("stiff",), ((ONE, O), (ONE, O)))
+LOOSE = (PART, ONE_TOOTH, SIDE_BAR, BACKWARD, SLIDE, BAD_STAND)
+LONG = ((800, 1), ((FLUTE, O, (800, 1), 1), (STRAIGHT, O, (800, 1), 2)))
+BRAID = (ONE, ((SIDE, O, ONE, 2), (STRAIGHT, O, ONE, 1), (("ring", HALF), HALF, HALF, 3)))
+LOW, HIGH = (O, HALF), (ONE, HALF)
+REEL, LAME = (THREE, THREE, (6, 1), 2), (FOUR, THREE, (6, 1), 2)
+REEL_BAR = ((3, 1), tuple(sorted((("lead", lead, phase), O, THREE, 2) for lead in (THREE, (-6, 1)) for phase in
+                                 ((O, (3, 2)) if lead == THREE else (O, THREE)))))
+WORN, LIKE_WORN = ((TWO, THREE), (FOUR, (5, 1))), ((ONE, THREE), (ONE, THREE), (TWO, (5, 1)))
 
 # name: calls, each as the tuple of its arguments in order
 CALLS = {
@@ -102,6 +121,119 @@ CALLS = {
     "motions_both": [(ALL, SLID), (ALONG, TURNS), (ALONG, STEPS), (SLID, ALONG), (STEPS, SLID), (STEPS, STEPS)],
     "index_of": [(ALONG, ((3, 1), ())), (ALL, STEPS), (TURNS, SLID)],
     "lines_from": [(STEPS, FLUTE), (TURNS, RING), (ALONG, ("lead", (3, 1), (1, 2))), (ALL, LEAD)],
+    "alike_bands": [(PAIR, PAIR_ON), (PAIR, BAND), ((), ())],
+    "motion_between": [(PAIR, PAIR_ON), (RINGS, RINGS), (BAND, BAND), (PAIR, BAND)],
+    "is_motion_between": [(PAIR, PAIR_ON, ((1, 4), (3, 4))), (PAIR, PAIR_ON, [[1, 4], [3, 4]])],
+    "mirror_between": [(((STRAIGHT, 1),), ((SIDE, 1),)), (PAIR, BAND)],
+    "is_mirror_between": [(((STRAIGHT, 1),), ((SIDE, 1),), (O, O)), (PAIR, PAIR, [O, O])],
+    "turns_between": [(SCREW, (THREE, ((LATE, O, THREE, 1),))), (BARE, BARE), (BARE, SHORT), (ROD, ROD)],
+    "ends_exchanged": [(PART,), (ROD,), (BARE,)],
+    "bar_mirrored": [(PART,), (ROD,), (TWICE,)],
+    "alike_bars": [(SCREW, (THREE, ((LATE, O, THREE, 1),))), (SCREW, PART)],
+    "is_handed": [(SCREW,), (BARE,)],
+    "parting_point": [(SCREW, PART, O), (BARE, SHORT, HALF), (ROD, SHORT, HALF)],
+    "is_parting_point": [(SCREW, PART, O, (ONE, HALF)), (SCREW, PART, O, [ONE, HALF])],
+    "is_nut": [(TWO_TEETH,), (list(TWO_TEETH),)],
+    "is_on": [(PART, TWO_TEETH, (O, HALF)), (PART, TWO_TEETH, (THREE, O))],
+    "why_off": [(PART, TWO_TEETH, (THREE, O)), (PART, TWO_TEETH, (O, O))],
+    "ways_on": [(PART, TWO_TEETH, False), (PART, ONE_TOOTH, True)],
+    "tooth_stretch": [(PART, TWO_TEETH, (O, O), 1), (PART, TWO_TEETH, (THREE, O), 1), (PART, TWO_TEETH, (O, O), 2)],
+    "how_far": [(PART, TWO_TEETH, (O, O)), (PART, TWO_TEETH, (THREE, O))],
+    "stops_at": [(PART, TWO_TEETH, (O, O), True), (PART, TWO_TEETH, (O, O), False), (PART, TWO_TEETH, (THREE, O), True)],
+    "way_between": [(PART, ONE_TOOTH, (THREE, O), (HALF, HALF)), (PART, TWO_TEETH, (O, O), (O, HALF)),
+                    (PART, TWO_TEETH, (O, O), (THREE, O))],
+    "stays_of": [(PART, ONE_TOOTH), (PART, TWO_TEETH), (BARE, ONE_TOOTH)],
+    "nut_at": [(PART, ONE, 1, (5, 2)), (PART, ONE, 3, O)],
+    "nut_through": [(PART, ONE, 1), (PART, TWO, 1)],
+    "nut_moved": [(TWO_TEETH, ((1, 4), HALF))],
+    "nut_step": [(TWO_TEETH,), (ONE_TOOTH,)],
+    "is_tie": [(SLIDE,), (("stiff",),), (["stiff"],)],
+    "leads_fit": [(ONE_TOOTH, BACKWARD, SLIDE), (ONE_TOOTH, BACKWARD, ("stiff",))],
+    "both_fine": [TIED[:4] + (STAND,), TIED[:4] + (BAD_STAND,)],
+    "turned_stand": [(ONE_TOOTH, BACKWARD, SLIDE, STAND, (7, 3)), (ONE_TOOTH, BACKWARD, ("gear", TWO), STAND, (-7, 3))],
+    "goes_by": [TIED + (HALF,), TIED + ((-9, 1),), LOOSE + (O,)],
+    "tied_far": [TIED + (True,), TIED + (False,), LOOSE + (True,)],
+    "stopped_by": [TIED + (True,), TIED + (False,), LOCKED + (True,), LOOSE + (True,)],
+    "lock_of": [LOCKED, TIED, LOOSE],
+    "is_lock": [LOCKED + (((1, 0), (1, 0)),), LOCKED + ([[1, 0], [1, 0]],), LOOSE + (None,)],
+    "half_closings": [(PART, ONE_TOOTH, (1, 4)), (PART, TWO_TEETH, (-7, 2)), (LONG, ONE_TOOTH, O)],
+    "plate_stands": [TIED[:4] + ((O, HALF),), (PART, ONE_TOOTH, PART, TWO_TEETH, (O, O))],
+    "gap_of": [(STRAIGHT, SIDE), (STRAIGHT, LATE), (STRAIGHT, RING)],
+    "how_many": [(STRAIGHT, SIDE, O, (10 ** 30, 1)), (RING, SIDE, O, ONE)],
+    "crossings_between": [(STRAIGHT, SIDE, O, THREE), (STRAIGHT, LATE, O, THREE), (STRAIGHT, SIDE, O, (10 ** 30, 1))],
+    "nth_crossing": [(STRAIGHT, SIDE, HALF, 10 ** 30), (RING, SIDE, O, 0), (RING, SIDE, O, 1)],
+    "crossing_angles": [(STRAIGHT, SIDE), (STRAIGHT, LATE), (("lead", (1, 999), O), STRAIGHT)],
+    "how_many_angles": [(STRAIGHT, SIDE), (STRAIGHT, LATE)],
+    "three_meet": [(STRAIGHT, SIDE, FLUTE), (STRAIGHT, SIDE, ("ring", HALF)), (STRAIGHT, SIDE, LATE)],
+    "at_place": [(ROD, TWO), (BARE, TWO)],
+    "grooves_at": [(ROD, TWO, (1, 4)), (BARE, TWO, O)],
+    "meetings_on": [(ROD, 0), (ROD, 3), (LONG, 0)],
+    "next_meeting": [(ROD, 0, ONE), (ROD, 0, (6, 1)), (ROD, -1, O), (LONG, 0, O)],
+    "all_meetings": [(ROD,), (BARE,), (LONG,)],
+    "busiest": [(ROD,), (BARE,), (LONG,)],
+    "lonely": [(ROD,), (LONG,), (SCREW,)],
+    "lands_of": [(BRAID,), (BARE,), (LONG,)],
+    "how_many_lands": [(BRAID,), (BARE,), (LONG,)],
+    "is_mark": [(BRAID, LOW), (BRAID, list(LOW)), (LONG, None)],
+    "land_at": [(BRAID, ((1, 4), HALF)), (BRAID, (O, O)), (BRAID, (TWO, O)), (LONG, (O, O))],
+    "same_land": [(BRAID, LOW, HIGH), (BRAID, LOW, ((1, 8), HALF)), (BRAID, LOW, (TWO, O)), (LONG, (O, O), (O, O))],
+    "area_of": [(BRAID, LOW), (BRAID, (O, O)), (LONG, LOW)],
+    "span_of": [(BRAID, LOW), (BRAID, (O, O)), (LONG, LOW)],
+    "goes_round": [(BRAID, LOW), (BARE, (O, O)), (BRAID, (O, O)), (LONG, LOW)],
+    "goes_along": [(BARE,), (BRAID,), (SCREW,), (LONG,)],
+    "neighbours_of": [(BRAID, LOW), (BARE, (O, O)), (BRAID, (O, O)), (LONG, LOW)],
+    "parted_by": [(BRAID, LOW, LOW), (BRAID, LOW, ((1, 3), O)), (BRAID, LOW, (O, O)), (LONG, LOW, LOW)],
+    "corners_of": [(BRAID, LOW), (BARE, (O, O)), (BRAID, (O, O)), (LONG, LOW)],
+    "corner_book": [(BRAID,), (BARE,), (LONG,)],
+    "lands_without": [(BRAID, 0), (BRAID, 2), (BRAID, 3), (LONG, 0)],
+    "bar_at": [(BRAID, 2), (UNEVEN, 2), (BRAID, 9)],
+    "worn_bar": [(BRAID, 1), (UNEVEN, 0), (BRAID, 9)],
+    "deepened": [(BRAID, 1, 4), (UNEVEN, 0, 1), (BRAID, 3, 1)],
+    "levels_of": [(BRAID,), (BARE,)],
+    "land_rows": [(BRAID,), (BARE,), (LONG,)],
+    "needless_grooves": [(TWICE,), (BRAID,), (((6, 1), (TWICE[1][0], (THREAD, ONE, THREE, 1))),)],
+    "crossing_depths": [(BRAID,), (BARE,), (LONG,)],
+    "least_crossed": [(BRAID, LOW, HIGH), (BRAID, LOW, (O, O)), (LONG, LOW, LOW)],
+    "crossing_way": [(BRAID, LOW, HIGH), (BRAID, LOW, (TWO, O)), (LONG, LOW, LOW)],
+    "is_crossing_way": [(BRAID, LOW, LOW, 0, (LOW,)), (BRAID, LOW, LOW, 0, [LOW]), (BRAID, LOW, (O, O), 3, None)],
+    "join_rows": [(BRAID,), (BARE,), (LONG,)],
+    "barring_depth": [(BRAID,), (BARE,), (LONG,)],
+    "is_track": [(REEL,), (list(REEL),)],
+    "beat_of": [(REEL,)],
+    "turns_of": [(REEL,)],
+    "bar_of_track": [(REEL, 2)],
+    "track_of": [(REEL_BAR,), (BRAID,)],
+    "start_after": [(REEL, 0, 10 ** 30 + 1), (REEL, 2, 0)],
+    "pawl_at": [(REEL, 0, (5, 4)), (REEL, 1, (10 ** 30, 7)), (REEL, -1, O)],
+    "groove_at": [(REEL, 0, (5, 4)), (REEL, 1, (10 ** 30, 7)), (REEL, -1, O)],
+    "round_of": [(REEL,), (LAME,)],
+    "starts_met": [(REEL, 0), (LAME, 1), (LAME, 2)],
+    "comes_through": [(REEL,), (LAME,)],
+    "divisor_paper": [(LAME,), (REEL,)],
+    "is_divisor_paper": [(LAME, 2), (LAME, True)],
+    "crossing_places": [(REEL,), (LAME,)],
+    "turns_to": [(REEL, 0, ((3, 2), (1, 4))), (REEL, 0, (ONE, O)), (REEL, 2, (ONE, O))],
+    "starts_through": [(LAME, ((3, 2), HALF)), (LAME, ((9, 1), HALF))],
+    "pawls_meet": [(REEL, 0, 1, HALF), (REEL, 0, 0, HALF), (REEL, 2, 3, HALF), (REEL, 0, 3, HALF)],
+    "least_length": [(THREE, (6, 1), 2, (9, 2))],
+    "is_screw": [(WORN,), (THREE,), (list(WORN),)],
+    "place_of": [(WORN, THREE), (THREE, (-1, 2))],
+    "turns_at": [(WORN, (16, 1)), (THREE, (-1, 2))],
+    "pitch_at": [(WORN, (6, 1)), (THREE, (-1, 2))],
+    "plain_screw": [(WORN,), (LIKE_WORN,), (((ONE, THREE),),), (THREE,)],
+    "screws_alike": [(WORN, LIKE_WORN), (WORN, THREE)],
+    "parting_turn": [(WORN, THREE), (TWO, THREE), (WORN, LIKE_WORN)],
+    "is_parting_turn": [(WORN, THREE, (5, 2)), (WORN, THREE, [5, 2])],
+    "bends_of": [(WORN,), (THREE,)],
+    "seen_from_turn": [(WORN, HALF), (WORN, (-1, 2)), (WORN, (9, 1)), (THREE, HALF)],
+    "screw_through": [(((TWO, (6, 1)), (THREE, (11, 1))),), (((ONE, TWO), (ONE, THREE)),)],
+    "closings": [(BENT, O, O, (16, 1)), (LATHE, HALF, (-3, 1), FOUR), (LATHE, O, O, (999, 1))],
+    "worn_pieces": [(BENT, O, THREE, (11, 1)), (BENT, O, (11, 1), THREE), (LATHE, O, O, ONE), (BENT, O, FOUR, (11, 1))],
+    "true_places": [(WORN, (5, 1), (20, 1)), (THREE, TWO, ONE)],
+    "longest_true": [(WORN, (11, 1)), (THREE, ONE)],
+    "error_at": [(WORN, THREE, (16, 1))],
+    "greatest_error": [(WORN, FOUR, (16, 1))],
+    "mean_pitch": [(WORN, THREE, (11, 1)), (THREE, ONE, O)],
     "band_from": [(STEPS, FLUTES), (TURNS, RINGS), (ALL, BAND), (STEPS, ((("flute", (0, 1)), 1), (("flute", (1, 3)), 2)))],
 }
 
@@ -150,9 +282,14 @@ class Calls(unittest.TestCase):
                 lists = [worth if own == "thing" else listed(worth) for own, worth in zip(parameters, call)]
                 told, again = outcome(function, *lists), outcome(function, *lists)
                 with self.subTest(name=name, values=lists):
+                    if isinstance(told, tuple) and told[:1] == ("raised",):
+                        continue
                     self.assertEqual(isinstance(told, list), name in LISTS)
-                    self.assertFalse(any(has_list(part) for part in told) if name in LISTS else has_list(told))
                     self.assertTrue(name not in LISTS or told is not again)
+                    # wear by wear join_rows tells a list
+                    parts = [part for row in told for part in row] if name == "join_rows" else told
+                    self.assertTrue(name != "join_rows" or all(isinstance(row, list) for row in told))
+                    self.assertFalse(any(has_list(part) for part in parts) if name in LISTS else has_list(told))
 
 
 if __name__ == "__main__":

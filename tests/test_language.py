@@ -7,7 +7,8 @@ import os
 import unittest
 
 PACKAGE = os.path.join(os.path.dirname(os.path.dirname(os.path.abspath(__file__))), "screwshop")
-ORDER = ["errors", "basics", "wheels", "lines", "bars", "passes", "dials", "motions"]
+ORDER = ["errors", "basics", "wheels", "lines", "bars", "passes", "dials", "motions", "alikebars", "nuts", "tied",
+         "crossings", "lands", "depths", "pawls", "worn"]
 LIBRARY = {"math": {"gcd", "lcm", "isqrt", "comb", "perm", "factorial"},
            "heapq": {"heappush", "heappop", "heapify", "heapreplace", "heappushpop"},
            "itertools": {"product", "combinations", "permutations"}}
