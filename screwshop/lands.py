@@ -94,9 +94,9 @@ class Sheet:
     def mark_of(self, land):
         low, high = self.span_of(land)
         places = [simplest_between(low, high)]
-        if low == ZERO and low not in self.rings and land in self.at_ends[0]:
+        if land in self.at_ends[0] and low not in self.rings:
             places.append(low)
-        if high == self.length and high not in self.rings and land in self.at_ends[1]:
+        if land in self.at_ends[1] and high not in self.rings:
             places.append(high)
         place = _simplest_of(places)
         return (place, _simplest_of([_simplest_angle(arc) for own, arc in self.pieces_at(place) if own == land]))

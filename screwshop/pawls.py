@@ -167,17 +167,14 @@ def pawls_meet(track, start, other, late):
     track, late = tupled((track, late))
     _start_there(track, start)
     _start_there(track, other)
-    length, right, left, starts = track
+    length, right, _, starts = track
     if not is_whole(subtract(late, fraction(other - start, starts))):
         return None
     cycle = _cycle_of(track)
     behind = divide(round_by(late, cycle), cycle)
-    if behind == ZERO:
-        return late
-    # one comes while the other goes: the first one, or the second one
-    second_goes = divide(multiply(length, subtract(ONE, behind)), right)
-    second_comes = subtract(cycle, divide(multiply(length, behind), left))
-    return add(late, by_value([second_goes, second_comes])[0])
+    # while the second one goes for the first time the first one comes towards it, or they are at one POINT all along
+    gone = ZERO if behind == ZERO else divide(multiply(length, subtract(ONE, behind)), right)
+    return add(late, gone)
 
 
 def least_length(right, left, starts, low):

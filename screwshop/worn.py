@@ -56,18 +56,19 @@ def screws_alike(one, other):
 def parting_turn(one, other):
     """Turns behind which they do not lead to the same."""
     one, other = tupled((one, other))
-    for turns in _turns_to_look_at(one) + _turns_to_look_at(other):
+    # straight between these, and alike at 0: what is alike at all of them is alike ahead of them and behind, too
+    for turns in _ends_of(one) + _ends_of(other):
         if is_parting_turn(one, other, turns):
             return turns
     raise NoPaper()
 
 
-def _turns_to_look_at(screw):
-    """Turns in each stretch of screw, at its ends, and ahead of turn 0."""
-    found = [(-1, 1), ZERO]
+def _ends_of(screw):
+    """The turns at which the stretches of screw end, the last one's too."""
+    ends = []
     for turns, _ in stretches_of(screw):
-        found.append(add(found[-1], turns))
-    return found + [add(found[-1], ONE)]
+        ends.append(add(ends[-1], turns) if ends else turns)
+    return ends
 
 
 def is_parting_turn(one, other, thing):

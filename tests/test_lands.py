@@ -54,7 +54,18 @@ BY_HAND = [
     a_bar(TWO, (("lead", ONE, O), O, TWO, 1), (("lead", ONE, HALF), O, TWO, 1), ring(TWO)),
     a_bar((1, 3), (("flute", (1, 7)), O, (1, 3), 1)), a_bar((7, 24), (("lead", (1, 24), (1, 48)), (1, 24), (1, 4), 2)),
 ]
-BARS = BY_HAND + some_bars(45)
+# LANDS that go round, and some that do not, between GROOVES that end: at no PLACE there is a way all round
+WINDING = [
+    a_bar(TWO, (FLUTE, O, (5, 4), 1), (OTHER, (3, 4), TWO, 1)), a_bar(TWO, (FLUTE, O, TWO, 1), (OTHER, HALF, (3, 2), 2)),
+    a_bar(TWO, (RIGHT, O, TWO, 2), (OTHER, (3, 4), (5, 4), 1)), a_bar(TWO, (RIGHT, O, (5, 4), 2), (OTHER, (3, 4), TWO, 1)),
+    a_bar(TWO, (RIGHT, O, ONE, 2), (OTHER, (3, 4), TWO, 1), (("flute", (3, 4)), (1, 4), ONE, 1)),
+    a_bar(TWO, (FLUTE, O, ONE, 1), (OTHER, (3, 4), (3, 2), 1), (("flute", (1, 4)), (5, 4), TWO, 1)),
+    a_bar(TWO, (("lead", TWO, O), O, TWO, 1), (("lead", TWO, ONE), HALF, (3, 2), 1), (("lead", TWO, HALF), HALF, ONE, 1)),
+    a_bar(TWO, (("lead", (-2, 1), O), O, (3, 2), 1), (("lead", (-2, 1), ONE), HALF, TWO, 1)),
+    a_bar(TWO, (("lead", (-1, 1), O), O, (3, 2), 1), (("lead", (-1, 1), HALF), HALF, TWO, 1)),
+    a_bar(TWO, (FLUTE, O, (3, 2), 1), (OTHER, HALF, TWO, 1), (("flute", (1, 4)), (3, 4), ONE, 1), (("flute", (3, 4)), O, HALF, 1)),
+]
+BARS = BY_HAND + WINDING + some_bars(40)
 
 
 def corners_by_hand(bar):
@@ -182,7 +193,7 @@ class Lands(unittest.TestCase):
         self.assertGreater(rounds, 20)
 
     def test_round(self):
-        for bar in BARS[:17] + BARS[20:35]:
+        for bar in BY_HAND[:17] + WINDING + BARS[-12:]:
             sheet, walk = Sheet(bar), Walk(plain_bar(bar), 30, 24)
             found = {sheet.land_at(walk.point(own)) for own in walk.points if walk.rounds[walk.homes[own]]}
             self.assertEqual([goes_round(bar, mark) for mark in sheet.marks],
@@ -360,6 +371,9 @@ class Told(unittest.TestCase):
                 ([ring(O), ring(TWO)], [True], 0), ([ring(ONE), (FLUTE, O, TWO, 1)], [False, False], 0),
                 ([ring(HALF), (FLUTE, HALF, TWO, 1)], [True, False], 0), ([(FLUTE, HALF, (3, 2), 1)], [True], 1),
                 ([(FLUTE, O, ONE, 1), (OTHER, ONE, TWO, 1)], [True], 1), ([(FLUTE, O, TWO, 1), (OTHER, O, TWO, 1)], [False] * 2, 2),
+                ([(FLUTE, O, (5, 4), 1), (OTHER, (3, 4), TWO, 1)], [True], 1),
+                ([(FLUTE, O, TWO, 1), (OTHER, (3, 4), (5, 4), 1)], [False], 1),
+                ([(RIGHT, O, TWO, 1), (OTHER, (3, 4), (5, 4), 1)], [False], 1),
                 ([(("lead", ONE, O), O, ONE, 1), (("lead", (-1, 1), O), O, ONE, 1)], [True, False, False], 0)]:
             bar = a_bar(TWO, *grooves)
             self.assertEqual(sorted(goes_round(bar, mark) for mark in lands_of(bar)), sorted(rounds), bar)

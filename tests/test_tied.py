@@ -223,6 +223,23 @@ class Going(unittest.TestCase):
         self.assertEqual(tied_far(whole, nut, whole, nut, ("stiff",), ((ONE, O), (ONE, O)), True), None)
         self.assertEqual(stopped_by(whole, nut, whole, nut, ("stiff",), ((ONE, O), (ONE, O)), True), ())
 
+    def test_coming_onto_the_bar(self):
+        # a turn ahead of it or behind it, so that it comes on with the turn wanted, or with another one
+        for lead, tie in product([ONE, TWO, (-2, 1), (2, 3)], [("stiff",), ("slide", ONE), ("gear", ONE)]):
+            bar, nut = (FOUR, ((("lead", lead, O), O, THREE, 1),)), (lead, (O,), 1)
+            away = ((FOUR, ()), nut, ((999, 1), pair(Fraction(1, 7))))
+            for wrong in (Fraction(0), Fraction(1, 5)):
+                for gone in (Fraction(1, 4), Fraction(3, 2), Fraction(7, 3)):
+                    sign = 1 if told(lead) > 0 else -1
+                    at = (pair(-gone * abs(told(lead))), pair(wrong - sign * gone))
+                    case = (bar, nut, away[0], away[1], tie, (at, away[2]))
+                    onward = sign > 0
+                    far = gone if wrong else gone + 3 / abs(told(lead))
+                    self.assertEqual(tied_far(*case, onward), pair(far))
+                    self.assertEqual(stopped_by(*case, onward), ((0, 0),))
+                    self.assertIs(goes_by(*case, pair(sign * far)), not wrong)
+                    self.assertEqual(tied_far(*case, not onward), pair(995 / abs(told(lead))))
+
     def test_a_stand_that_does_not_hold(self):
         line, nut = ("lead", ONE, O), (ONE, (O,), 1)
         bar = (FOUR, ((line, O, FOUR, 1),))
