@@ -84,6 +84,41 @@ class Language(unittest.TestCase):
                         self.assertFalse(hasattr(builtins, own) and own != "__init__")
                         self.assertNotIn(own, drawn)
 
+    def test_stars_stand_before_names_alone(self):
+        for name, tree in trees():
+            for node in ast.walk(tree):
+                if isinstance(node, ast.Starred):
+                    with self.subTest(file=name, line=node.lineno):
+                        self.assertIsInstance(node.value, (ast.Name, ast.Attribute, ast.List, ast.Tuple))
+
+    def test_what_is_iterated_at_once_is_not_returned(self):
+        for name, tree in trees():
+            for node in ast.walk(tree):
+                if isinstance(node, ast.Return) and isinstance(node.value, ast.Call):
+                    with self.subTest(file=name, line=node.lineno):
+                        told = getattr(node.value.func, "id", getattr(node.value.func, "attr", ""))
+                        self.assertNotIn(told, ("range", "zip", "enumerate", "reversed", "map", "iter", "items", "keys", "values"))
+
+    def test_words_that_stand_nowhere(self):
+        for path in files():
+            with open(path, encoding="ascii") as text:
+                told = text.read()
+            for word in ("_" + "wall", "_" + "WallAttr", "dataclass", "overload", "contextmanager"):
+                with self.subTest(path=path, word=word):
+                    self.assertNotIn(word, told)
+
+    def test_a_stored_set_is_assigned_alone(self):
+        for name, tree in trees():
+            for node in ast.walk(tree):
+                if isinstance(node, ast.Tuple) and isinstance(node.ctx, ast.Load):
+                    with self.subTest(file=name, line=node.lineno):
+                        self.assertFalse([own for own in node.elts if self.makes_a_set(own)])
+
+    def makes_a_set(self, node):
+        if isinstance(node, ast.SetComp):
+            return True
+        return isinstance(node, ast.Call) and isinstance(node.func, ast.Name) and node.func.id == "set"
+
     def bound(self, node):
         if isinstance(node, ast.Name) and isinstance(node.ctx, ast.Store):
             return [node.id]

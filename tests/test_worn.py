@@ -155,10 +155,10 @@ class Screws(unittest.TestCase):
 
     def test_seen_from(self):
         for screw in SCREWS:
-            for turns in TURNS[::3]:
+            for turns in TURNS[::5]:
                 seen = seen_from_turn(screw, pair(turns))
                 self.assertTrue(is_screw(seen) and is_plain_by_hand(seen))
-                for more in [own for own in TURNS if own >= 0]:
+                for more in [own for own in TURNS if own >= 0][::4]:
                     self.assertEqual(place_by_hand(seen, more), place_by_hand(screw, turns + more) - place_by_hand(screw, turns))
 
     def test_seen_from_bends_and_ahead_of_0(self):
@@ -245,7 +245,7 @@ class Lathes(unittest.TestCase):
         for lathe in LATHES:
             bends = list(map(told, bends_of(lathe[0])))
             for turned in (Fraction(0), Fraction(2, 3)):
-                for place in map(told, closings(lathe, pair(turned), (-4, 1), (9, 1))[::3]):
+                for place in map(told, closings(lathe, pair(turned), (-4, 1), (9, 1))[::5]):
                     for end in (place + 5, place - Fraction(9, 2), place + Fraction(1, 5), Fraction(6)):
                         if place != end:
                             pieces = worn_pieces(lathe, pair(turned), pair(place), pair(end))
