@@ -112,15 +112,19 @@ def by_first(rows):
     return sorted(rows, key=lambda row: row[0][0] * (bottom // row[0][1]))
 
 
+def weights_of(one, other):
+    """The triple (divisor, weight, other weight): the greatest divisor of both, which is both weighed, added up."""
+    ahead, behind = (one, 1, 0), (other, 0, 1)
+    while behind[0] != 0:
+        multiple = ahead[0] // behind[0]
+        rest = tuple([near - multiple * far for near, far in zip(ahead, behind)])
+        ahead, behind = behind, rest
+    return ahead if ahead[0] >= 0 else tuple([-part for part in ahead])
+
+
 def inverse(number, modulus):
     """From 0, below modulus: what times number is 1, round by modulus; no divisor above 1 is in both."""
-    old, new = number % modulus, modulus
-    factor, following = 1, 0
-    while new:
-        multiple = old // new
-        old, new = new, old - multiple * new
-        factor, following = following, factor - multiple * following
-    return factor % modulus
+    return weights_of(number, modulus)[1] % modulus
 
 
 def floor_of(value):

@@ -130,7 +130,7 @@ def worn_pieces(lathe, turned, place, end):
     return tuple(pieces)
 
 
-def _true_stretches(screw, bed):
+def true_stretches(screw, bed):
     """The triples (start, end, pitch) of the stretches of bed of one pitch."""
     bends = [bend for bend in bends_of(screw) if is_below(bend, bed)]
     return [(start, end, pitch_at(screw, start)) for start, end in zip([ZERO] + bends, bends + [bed])]
@@ -139,12 +139,12 @@ def _true_stretches(screw, bed):
 def true_places(screw, pitch, bed):
     """The tuple of the stretches of bed in which the pitch is this one."""
     pitch, bed = tupled((pitch, bed))
-    return tuple([(start, end) for start, end, own in _true_stretches(screw, bed) if own == pitch])
+    return tuple([(start, end) for start, end, own in true_stretches(screw, bed) if own == pitch])
 
 
 def longest_true(screw, bed):
     """The longest stretch of bed of one pitch, of several the first."""
-    stretches = _true_stretches(screw, tupled(bed))
+    stretches = true_stretches(screw, tupled(bed))
     longest = by_value([subtract(end, start) for start, end, _ in stretches])[-1]
     return [(start, end) for start, end, _ in stretches if subtract(end, start) == longest][0]
 
@@ -157,7 +157,7 @@ def error_at(screw, pitch, place):
 
 def greatest_error(screw, pitch, bed):
     """The greatest size of the error in bed."""
-    ends = [end for _, end, _ in _true_stretches(screw, tupled(bed))]
+    ends = [end for _, end, _ in true_stretches(screw, tupled(bed))]
     return by_value([ZERO] + [size_of(error_at(screw, pitch, end)) for end in ends])[-1]
 
 

@@ -123,6 +123,49 @@ INTERFACE = {
         "error_at": ["screw", "pitch", "place"], "greatest_error": ["screw", "pitch", "bed"],
         "mean_pitch": ["screw", "start", "end"],
     },
+    "misfits": {
+        "are_pieces": ["thing"], "plain_pieces": ["pieces"], "pieces_moved": ["pieces", "motion"],
+        "angle_there": ["pieces", "place"], "shift_between": ["one", "other"], "parting_at": ["one", "other"],
+        "is_parting_at": ["one", "other", "thing"], "fits_by": ["pieces", "nut", "shift"],
+        "nut_shifts": ["pieces", "nut"], "nut_way": ["pieces", "nut", "shift"], "common_stretch": ["one", "other"],
+        "wrong_stretches": ["pieces", "lead"], "places_alike": ["screw", "length", "bed", "place"],
+    },
+    "nested": {
+        "is_nest": ["thing"], "is_move": ["nest", "thing"], "freedom": ["nest"], "plain_moves": ["nest"],
+        "move_with": ["nest", "turned"], "gain_of": ["nest", "part", "far"],
+        "turn_for": ["nest", "part", "far", "shift"], "finest_move": ["nest", "dials", "far"],
+        "clicks_for": ["nest", "dials", "far", "shift"], "are_clicks": ["nest", "dials", "far", "shift", "thing"],
+        "free_move": ["nest", "part"], "stay_of": ["nest", "part"], "is_stay": ["nest", "part", "thing"],
+        "reach_of": ["nest", "stops", "part", "up"],
+    },
+    "dividing": {
+        "is_plate": ["thing"], "circles_for": ["plate", "many"], "holes_moved": ["plate", "many", "circle"],
+        "no_circles": ["plate", "many"], "is_no_circles": ["plate", "many", "thing"],
+        "compound_for": ["plate", "many"], "is_compound": ["plate", "many", "thing"],
+        "closes_round": ["plate", "circle", "holes"],
+    },
+    "sheets": {
+        "points_of": ["net"], "sheet_of": ["bar", "apart", "parts"], "bar_from_points": ["sheet", "kinds"],
+        "lines_through": ["view", "kinds"], "sure_lines": ["view", "kinds"], "least_lines": ["view", "kinds"],
+        "is_lines": ["view", "kinds", "thing"], "denial": ["view", "kinds"], "is_denial": ["view", "kinds", "thing"],
+        "next_point": ["view", "kinds", "points"],
+    },
+    "judge": {
+        "is_claim": ["thing"], "is_so": ["claim"], "paper": ["claim"], "is_paper": ["claim", "thing"],
+        "shows": ["claim", "thing"], "not_so": ["claims"], "words_so": ["claims"],
+    },
+    "texts": {
+        "bar_text": ["bar"], "lathe_text": ["lathe"], "motions_text": ["motions"], "bar_read": ["text"],
+        "lathe_read": ["text"], "motions_read": ["text"],
+    },
+    "board": {"Board": ["lathe", "length"]},
+    "desk": {"is_request": ["line"], "replies": ["lathe", "length", "text"]},
+}
+
+# each method of a Board with the names of its parameters
+BOARD = {
+    "bar_now": [], "stand_now": [], "dial_now": [], "depth_here": [], "deeds": [], "do": ["deed"],
+    "cut_to": ["end", "depth"], "undo": [], "redo": [],
 }
 
 

@@ -8,7 +8,7 @@ from tests.support import INTERFACE, has_list, listed
 
 LISTS = ["rows_of", "dials_that_do", "stays_of", "half_closings", "plate_stands", "crossings_between", "crossing_angles",
          "at_place", "meetings_on", "all_meetings", "lands_of", "goes_along", "neighbours_of", "corners_of", "land_rows",
-         "crossing_depths", "join_rows"]
+         "crossing_depths", "join_rows", "replies"]
 
 LEAD, LEFT, RING, FLUTE = ("lead", (1, 2), (1, 8)), ("lead", (-1, 2), (1, 8)), ("ring", (1, 4)), ("flute", (1, 2))
 TRAIN, BOX = (((20, 40), (30, 60)), True), (20, 30, 40, 60)
@@ -44,6 +44,24 @@ LOW, HIGH = (O, HALF), (ONE, HALF)
 REEL, LAME = (THREE, THREE, (6, 1), 2), (FOUR, THREE, (6, 1), 2)
 REEL_BAR = ((3, 1), tuple(sorted((("lead", lead, phase), O, THREE, 2) for lead in (THREE, (-6, 1)) for phase in
                                  ((O, (3, 2)) if lead == THREE else (O, THREE)))))
+SAW = ((("lead", (3, 2), O), THREE, (6, 1)), (("lead", (5, 2), ONE), (6, 1), (11, 1)))
+CUT_UP = ((SAW[0][0], THREE, FOUR), (SAW[0][0], FOUR, (6, 1)), SAW[1])
+SAW_ON, LONE = ((("lead", (3, 2), (3, 8)), (5, 1), (8, 1)), (("lead", (5, 2), (17, 8)), (8, 1), (13, 1))), SAW[:1]
+LEFT_SAW, RING_NUT = ((("lead", (-3, 2), O), THREE, (6, 1)),), ((("lead", (3, 2), O), O, ONE),)
+VICE, LOOSE_NEST = (((3, 2), (7, 5)), ((2, "round"),)), (((3, 2), (7, 5)), ())
+SHUT, DIALS = (VICE[0], ((1, "along"), (2, "round"))), ((1, 25), (2, 20))
+STOPS = (((-3, 1), (6, 1)), ((-7, 1), O))
+HEAD, PLATE = (40, (15, 16, 18, 21)), (40, (15, 16))
+NET, WIDE_NET = (ONE, (1, 4), 4), (ONE, (1, 400), 1)
+SPIRAL, TURNED_KINDS = (ONE, ((STRAIGHT, O, ONE, 1),)), ("flute", ONE)
+DRAWN = (NET, ((O, O), (ONE, O), (HALF, HALF), ((1, 4), (1, 4)), ((3, 4), (3, 4))))
+SIGHT = (((O, O), (HALF, HALF), ((1, 4), (1, 4))), (((3, 4), (3, 4)),))
+MANY_WAYS = (tuple(sorted(((own, 1), (1, own)) for own in range(2, 14))), ())
+SO, WRONG = ("comes", (ONE, ONE, ONE, 1)), ("comes", (ONE, ONE, ONE, 2))
+SHOP_CUT = ("cuts", ((1, 2), ((), False), (4, 4)), (ONE, ((("lead", HALF, O), O, ONE, 1),)))
+JUDGED = [SO, WRONG, SHOP_CUT, ("goes",) + TIED, ("goes",) + LOCKED, ("led", SAW, SAW_ON), ("led", SAW, LONE), ("moves", VICE, 1), ("moves", SHUT, 2), ("divides", HEAD, 7),
+          ("divides", PLATE, 7), ("lines", SIGHT, TURNED_KINDS), ("lines", SIGHT, (ONE,))]
+REFUSED = [("loud", 1), ("comes",), ("comes", ONE, ONE), ("cuts", BENT, BARE), ("goes",) + LOOSE]
 WORN, LIKE_WORN = ((TWO, THREE), (FOUR, (5, 1))), ((ONE, THREE), (ONE, THREE), (TWO, (5, 1)))
 
 # name: calls, each as the tuple of its arguments in order
@@ -234,6 +252,66 @@ CALLS = {
     "error_at": [(WORN, THREE, (16, 1))],
     "greatest_error": [(WORN, FOUR, (16, 1))],
     "mean_pitch": [(WORN, THREE, (11, 1)), (THREE, ONE, O)],
+    "are_pieces": [(SAW,), (list(SAW),)],
+    "plain_pieces": [(CUT_UP,), (SAW,)],
+    "pieces_moved": [(SAW, (TWO, (1, 4)))],
+    "angle_there": [(SAW, FOUR), (SAW, TWO)],
+    "shift_between": [(SAW, SAW_ON), (CUT_UP, SAW), (SAW, LONE)],
+    "parting_at": [(SAW, LONE), (LEFT_SAW, LONE), (SAW, SAW_ON)],
+    "is_parting_at": [(SAW, LONE, (5, 1)), (SAW, LONE, [5, 1])],
+    "fits_by": [(SAW, RING_NUT, FOUR), (SAW, RING_NUT, (11, 2)), (SAW, SAW_ON, (-2, 1))],
+    "nut_shifts": [(SAW, RING_NUT), (SAW, SAW_ON), (SAW, LEFT_SAW)],
+    "nut_way": [(SAW, RING_NUT, FOUR), (SAW, RING_NUT, (7, 1))],
+    "common_stretch": [(SAW, SAW_ON), (SAW, LEFT_SAW)],
+    "wrong_stretches": [(SAW, (3, 2)), (SAW, ONE)],
+    "places_alike": [(WORN, TWO, (20, 1), (7, 1)), (THREE, ONE, ONE, O)],
+    "is_nest": [(VICE,), (list(VICE),)],
+    "is_move": [(VICE, ((THREE, TWO), ((1, 5), O))), (VICE, [[THREE, TWO], [(1, 5), O]])],
+    "freedom": [(VICE,), (SHUT,)],
+    "plain_moves": [(VICE,), (LOOSE_NEST,), (SHUT,)],
+    "move_with": [(LOOSE_NEST, ((1, TWO), (2, ONE))), (SHUT, ()), (VICE, ((2, ONE),)), (LOOSE_NEST, ())],
+    "gain_of": [(VICE, 1, 2), (LOOSE_NEST, 1, 2)],
+    "turn_for": [(VICE, 1, 2, (1, 4)), (VICE, 2, 1, O)],
+    "finest_move": [(LOOSE_NEST, DIALS, 2), (SHUT, (), 1), (VICE, DIALS, 2)],
+    "clicks_for": [(LOOSE_NEST, DIALS, 2, (1, 500)), (SHUT, (), 1, ONE), (VICE, DIALS, 2, O)],
+    "are_clicks": [(LOOSE_NEST, DIALS, 2, (1, 500), (-17, 1)), (LOOSE_NEST, DIALS, 2, (1, 500), [-17, 1]), (VICE, DIALS, 2, O, None)],
+    "free_move": [(VICE, 2), (SHUT, 2)],
+    "stay_of": [(SHUT, 2), (VICE, 2)],
+    "is_stay": [(SHUT, 1, (((2, 3), O), (ONE, O))), (SHUT, 1, [((2, 3), O), (ONE, O)])],
+    "reach_of": [(VICE, STOPS, 1, True), (VICE, STOPS, 1, False), (LOOSE_NEST, STOPS, 1, True)],
+    "is_plate": [(HEAD,), (list(HEAD),)],
+    "circles_for": [(HEAD, 6), (PLATE, 7)],
+    "holes_moved": [(HEAD, 7, 21), (PLATE, 7, 15)],
+    "no_circles": [(PLATE, 9), (PLATE, 40)],
+    "is_no_circles": [(PLATE, 9, (9, 9)), (PLATE, 9, [9, 9])],
+    "compound_for": [(PLATE, 96), (PLATE, 7)],
+    "is_compound": [(PLATE, 48, (15, 16, 5, 8)), (PLATE, 48, [15, 16, 5, 8])],
+    "closes_round": [(PLATE, 15, 9), (PLATE, 14, 9)],
+    "points_of": [(NET,), (WIDE_NET,)],
+    "sheet_of": [(SPIRAL, (1, 4), 4), (SPIRAL, (1, 400), 1)],
+    "bar_from_points": [(DRAWN, TURNED_KINDS), (DRAWN, ("flute",)), ((WIDE_NET, ()), ("ring",))],
+    "lines_through": [(SIGHT, TURNED_KINDS), (((), ()), ("ring",))],
+    "sure_lines": [(SIGHT, TURNED_KINDS), (SIGHT, (ONE,))],
+    "least_lines": [(SIGHT, TURNED_KINDS), (SIGHT, (ONE,))],
+    "is_lines": [(SIGHT, TURNED_KINDS, (("flute", O), ("flute", HALF), ("flute", (1, 4)))), (SIGHT, TURNED_KINDS, [("flute", O), ("flute", HALF), ("flute", (1, 4))])],
+    "denial": [(SIGHT, (ONE,)), (SIGHT, TURNED_KINDS)],
+    "is_denial": [(SIGHT, (ONE,), ((O, O), (((3, 4), (3, 4)),))), (SIGHT, (ONE,), [(O, O), (((3, 4), (3, 4)),)])],
+    "next_point": [((SIGHT[0], ()), (ONE, "ring"), ((O, HALF), (HALF, O))), (SIGHT, (ONE,), ((O, O),)), (MANY_WAYS, ("ring", "flute"), ((O, O),))],
+    "is_claim": [(SO,), (list(SO),), (("loud",),)],
+    "is_so": [(claim,) for claim in JUDGED + REFUSED],
+    "paper": [(claim,) for claim in JUDGED + REFUSED],
+    "is_paper": [(SO, (0, 1)), (SO, [0, 1]), (REFUSED[0], None), (REFUSED[1], None), (REFUSED[3], None)],
+    "shows": [(SO, (0, 1)), (SO, [0, 1]), (WRONG, 2), (REFUSED[0], None), (REFUSED[1], None), (REFUSED[3], None)],
+    "not_so": [((SO, WRONG, WRONG),), ((),), ((SO, REFUSED[0]),), ((REFUSED[1], REFUSED[0]),)],
+    "words_so": [((SO, WRONG, SHOP_CUT),), ((),), ((SO, REFUSED[0]),), ((REFUSED[1], REFUSED[0]),)],
+    "bar_text": [(ROD,), (UNEVEN,), (BARE,)],
+    "lathe_text": [(LATHE,), (BACK,), (BENT,)],
+    "motions_text": [(ALL,), (ALONG,), (STEPS,)],
+    "bar_read": [("bar 6\ngroove flute 1/4 0 6 1",), ("bar 6\ngroove flute 1/4 0 7 1",)],
+    "lathe_read": [("screw 1/4\ntrain 3:2\ntumble yes\ndial 1 1",), ("screw 1 2 then 3 4\ntrain\ntumble no\ndial 1 1",), ("screw 1/4",)],
+    "motions_read": [("free 1/4\nstep 1/8 0",), ("free",)],
+    "is_request": [("spin 1/2",), ("spin 2/4",)],
+    "replies": [(LATHE, (6, 1), "cut 6 2\nstand\ndial\nundo\ngrooves\ncarry 7"), (LATHE, (6, 1), "stand\nspin 2/4"), (LATHE, (6, 1), "")],
     "band_from": [(STEPS, FLUTES), (TURNS, RINGS), (ALL, BAND), (STEPS, ((("flute", (0, 1)), 1), (("flute", (1, 3)), 2)))],
 }
 
@@ -241,7 +319,7 @@ CALLS = {
 def functions():
     """Each function of the interface with its name and the names of its parameters."""
     for file in INTERFACE:
-        if file != "errors":
+        if file not in ("errors", "board"):
             module = importlib.import_module("screwshop." + file)
             for name in INTERFACE[file]:
                 yield getattr(module, name), name, INTERFACE[file][name]

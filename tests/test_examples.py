@@ -41,7 +41,7 @@ class Examples(unittest.TestCase):
                     self.raises(line, told[7:], names)
                 else:
                     self.assertEqual(repr(eval(line, names)), repr(eval(told)))
-        self.assertEqual(asked, 141)
+        self.assertEqual(asked, 206)
 
     def raises(self, line, told, names):
         error = told.partition("(")[0]

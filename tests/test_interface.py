@@ -4,7 +4,7 @@ import importlib
 import inspect
 import unittest
 
-from tests.support import ERRORS, INTERFACE
+from tests.support import BOARD, ERRORS, INTERFACE
 
 
 class Interface(unittest.TestCase):
@@ -27,6 +27,19 @@ class Interface(unittest.TestCase):
                     self.assertEqual(list(parameters), INTERFACE[file][name])
                     kinds = {parameters[own].kind for own in parameters}
                     self.assertEqual(kinds, {inspect.Parameter.POSITIONAL_OR_KEYWORD})
+
+
+    def test_methods_of_a_board(self):
+        board = importlib.import_module("screwshop.board").Board
+        for name in BOARD:
+            with self.subTest(name=name):
+                self.assertIn(name, vars(board))
+                parameters = inspect.signature(vars(board)[name]).parameters
+                self.assertEqual(list(parameters)[1:], BOARD[name])
+                kinds = {parameters[own].kind for own in parameters}
+                self.assertEqual(kinds, {inspect.Parameter.POSITIONAL_OR_KEYWORD})
+        shown = [name for name in vars(board) if not name.startswith("_")]
+        self.assertEqual(sorted(shown), sorted(BOARD))
 
 
 if __name__ == "__main__":
