@@ -58,7 +58,7 @@ def _prime_powers(many):
 def is_no_circles(plate, many, thing):
     """Whether thing is a NO LIST."""
     worm, circles = plate
-    if not is_tuple_of(thing, len(circles)) or not all([is_number(power) for power in thing]):
+    if not is_tuple_of(thing, len(circles)):
         return False
     powers = _prime_powers(many)
     return all([power in powers and worm * circle % power != 0 for power, circle in zip(thing, circles)])

@@ -237,7 +237,7 @@ def _told(claim):
     """The pair (word, things) of claim; NoWord(word), then Unfit() if it has not as many things."""
     claim = tupled(claim)
     word = claim[0] if claim else None
-    if not isinstance(word, str) or word not in MANY:
+    if word not in MANY:
         raise NoWord(word)
     if len(claim) - 1 != MANY[word]:
         raise Unfit()

@@ -1,12 +1,10 @@
 """Sheets: POINTS of a NET that have depth, what LINES they tell, LOTS and DENIALS."""
 
 from screwshop.bars import depth_at
-from screwshop.basics import ZERO, divide, floor_of, fraction, is_ascending, is_fraction, is_point
-from screwshop.basics import is_tuple_of, refuse_too_many, scaled, tupled
+from screwshop.basics import MOST_TOLD, ZERO, divide, floor_of, fraction, is_ascending, is_fraction
+from screwshop.basics import is_point, is_tuple_of, refuse_too_many, scaled, tupled
 from screwshop.errors import NoPaper
 from screwshop.lines import goes_through, is_line, line_at
-
-MOST_LOTS = 400
 
 
 def points_of(net):
@@ -227,7 +225,7 @@ def is_denial(view, kinds, thing):
 
 def next_point(view, kinds, points):
     """The least pair (left, number) of how many LOTS of the fewest LINES are left by what the POINT tells."""
-    lots = _fewest_lots(view, kinds, MOST_LOTS + 1)
+    lots = _fewest_lots(view, kinds, MOST_TOLD + 1)
     refuse_too_many(len(lots))
     rows = []
     for number, point in enumerate(tupled(points)):

@@ -167,7 +167,7 @@ class Compounds(unittest.TestCase):
 
     def test_things_that_are_no_compounds(self):
         self.assertIs(is_compound(PAIR, 48, (15, 16, 5, 8)), True)
-        for thing in STRANGE + spoiled((15, 16, 5, 8)) + [[15, 16, 5, 8], (15, 16, 5), (15, 16, 5, 8, 0), (30, 16, 10, 8), (15, 32, 5, 16), (15, 16, 20, -8)]:
+        for thing in STRANGE + spoiled((15, 16, 5, 8)) + [[15, 16, 5, 8], (15, 16, 5), (15, 16, 5, 8, 0), (30, 16, 10, 8), (15, 32, 5, 16), (15, 16, 20, -8), (3, 16, 1, 8), (15, 24, 5, 12), (3, 8, 1, 4)]:
             self.assertIs(is_compound(PAIR, 48, thing), False, thing)
         for thing in [(1, 2, False, 2), (True, 2, 0, 2), (1, 2, 0, True)]:
             self.assertIs(is_compound((1, (1, 2)), 1, thing), False, thing)

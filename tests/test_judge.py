@@ -38,12 +38,16 @@ CUTS += [("cuts", SHOP, (ONE, ())), ("cuts", SHOP, bar_of([("flute", O)])), ("cu
          ("cuts", STEEP, (TWO, ((("lead", (-3, 1), ONE), O, ONE, 3), (("lead", (-3, 1), TWO), HALF, TWO, 1)))), ("cuts", STEEP, bar_of([("lead", (3, 1), ONE)]))]
 TIES = [("stiff",), ("slide", (-1, 1)), ("gear", TWO)]
 GOES = [("goes", PART, NUT, SIDE_BAR, BACK, tie, stand) for tie in TIES for stand in STANDS[:4]]
+# on a GROOVE that begins and ends beside the ends of the bar: onward alone, back alone, either way
+SHORT_BAR = ((4, 1), ((STRAIGHT, ONE, THREE, 1),))
+GOES += [("goes", SHORT_BAR, NUT, PART, NUT, ("stiff",), ((place, O), ((9, 1), O))) for place in (ONE, THREE, TWO)]
 TRACKS = [(ONE, ONE, ONE, 2), (ONE, ONE, ONE, 1), (THREE, THREE, (6, 1), 2), ((4, 1), THREE, (6, 1), 2), ((5, 2), ONE, ONE, 6), ((5, 6), ONE, ONE, 6), (ONE, ONE, HALF, 1)]
 COMES = [("comes", track) for track in TRACKS]
 ALONG = pieces_moved(SAW[:1], (TWO, (1, 4)))
 LED = [("led", SAW, pieces_moved(SAW, (TWO, (1, 4)))), ("led", SAW, SAW[:1]), ("led", SAW[:1], ALONG), ("led", SAW[1:], ALONG), ("led", SAW, SAW),
        ("led", bent(Fraction(0), Fraction(0), [(Fraction(1), Fraction(2))]), bent(Fraction(0), Fraction(0), [(Fraction(1, 2), Fraction(2))]))]
-NESTS = [VICE, (VICE[0], ()), (VICE[0], ((1, "along"), (2, "round"))), ((TWO, TWO), ((2, "round"),)), ((ONE, (-1, 1), TWO), ((1, "along"), (3, "round")))]
+STILL_ONE = ((ONE, ONE), ())
+NESTS = [STILL_ONE, VICE, (VICE[0], ()), (VICE[0], ((1, "along"), (2, "round"))), ((TWO, TWO), ((2, "round"),)), ((ONE, (-1, 1), TWO), ((1, "along"), (3, "round")))]
 MOVES = [("moves", nest, part) for nest in NESTS for part in range(1, len(nest[0]) + 1)]
 DIVIDES = [("divides", (40, (15, 16, 18)), many) for many in (1, 6, 7, 9, 40, 96, 41)]
 VIEWS = [(VIEW, ("flute", ONE)), (VIEW, (ONE,)), (((), VIEW[1]), ("ring",)), ((VIEW[0], ()), ("ring", "flute", HALF)),
@@ -172,6 +176,7 @@ class Asked(unittest.TestCase):
 
     def test_all_things_are_shown_to_all_claims(self):
         things = [paper(claim) for claim in CLAIMS] + STRANGE + [2, 3, 15, 18, (1, -1), (7, -1), (-3, 5), (0, 1), (1, 1), (9, 9, 9), (7, 7, 7), ((3, 1), (1, 4)), ((2, 1), (1, 4))]
+        things += [((O, O),) * many for many in (1, 2, 3)] + [((ONE, ONE), (O, O)), ((O, O), (ONE, ONE)), ((ONE, ONE), (ONE, ONE)), ((TWO, ONE), (O, O))]
         things += [other for thing in [paper(claim) for claim in CLAIMS[::3]] for other in random.Random(1).sample(spoiled(thing, False), 4)]
         some = {}
         for claim in CLAIMS:
@@ -194,6 +199,16 @@ class Asked(unittest.TestCase):
             if isinstance(found, tuple) and found:
                 self.assertIsNone(shows(claim, list(found)))
                 self.assertIs(is_paper(claim, listed(found)), False)
+
+    def test_moves_in_which_the_part_neither_goes_nor_turns(self):
+        only_first = ((ONE, ONE), (O, O))
+        self.assertEqual([shows(("moves", STILL_ONE, part), only_first) for part in (1, 2)], [True, None])
+        self.assertEqual([shows(("moves", VICE, part), ((O, O), (O, O))) for part in (1, 2)], [None, None])
+
+    def test_stands_that_go_one_way_alone(self):
+        onward, back, both = GOES[-3:]
+        self.assertEqual([[shows(claim, own) for own in ((1, 9), (-1, 9), (2, 1), (5, 2))] for claim in (onward, back, both)],
+                         [[True, None, True, None], [None, True, None, None], [True, True, None, None]])
 
     def test_numbers_in_place_of_true_and_false(self):
         one_start, divided = ("comes", (ONE, ONE, ONE, 1)), ("divides", (40, (1, 2)), 40)
@@ -291,7 +306,7 @@ class Shapes(unittest.TestCase):
                       ("divides", (40, (15, 16)), True), ("divides", (40, (15, 16)), ONE), ("divides", (40, ()), 7)]:
             self.assertIs(is_claim(thing), False, thing)
         view = VIEW
-        for thing in [("lines", view, ()), ("lines", view, ("ring", "ring")), ("lines", view, (ONE, ONE)), ("lines", view, (O,)), ("lines", view, ((2, 2),)), ("lines", view, ("lead",)),
+        for thing in [("lines", view, ()), ("lines", view, ("ring", "ring")), ("lines", view, ("ring", ONE, "ring")), ("lines", view, (ONE, ONE)), ("lines", view, (O,)), ("lines", view, ((2, 2),)), ("lines", view, ("lead",)),
                       ("lines", view, "ring"), ("lines", view, ["ring"]), ("lines", (view[0], view[0][:1]), ("ring",)), ("lines", (view[0][::-1], ()), ("ring",)), ("lines", (view[0],), ("ring",)),
                       ("lines", (view[0], view[1] * 2), ("ring",)), ("lines", (view[0] + (), [((3, 4), (3, 4))]), ("ring",)), ("lines", (((O, ONE),), ()), ("ring",)), ("lines", (((O, O, O),), ()), ("ring",)),
                       ("lines", (view[0], ()), ("ring", None)), ("lines", (view[0], ()), ("ring", True)), ("lines", (view[0], ()), ("ring", 1))]:

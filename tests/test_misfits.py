@@ -329,6 +329,11 @@ class Stretches(unittest.TestCase):
         self.assertEqual(common_stretch(bent(Fraction(5), Fraction(0), [(one, one), (Fraction(3), one), (one, Fraction(2))]), rod),
                          (ONE, (5, 1), ONE))
         self.assertEqual(common_stretch(rod, rod), ((4, 1), O, O))
+        # alike two by two, but with something between on one of them
+        three_leads = bent(Fraction(0), Fraction(0), [(Fraction(3), one), (two, one), (one, one)])
+        for rows, stretch in [([(Fraction(3), one), (one, one)], (ONE, O, O)), ([(two, one), (Fraction(3), one), (one, one)], (ONE, O, ONE))]:
+            self.assertEqual(common_stretch(three_leads, bent(Fraction(0), Fraction(0), rows)), stretch)
+            self.assertEqual(common_stretch(bent(Fraction(0), Fraction(0), rows), three_leads)[0], ONE)
         self.assertIsNone(common_stretch(rod, bent(Fraction(0), Fraction(0), [(-one, one), (-two, one)])))
         long = bent(Fraction(0), Fraction(0), [(one, Fraction(3))])
         self.assertEqual(common_stretch(long, bent(Fraction(-7), Fraction(1, 2), [(one, Fraction(2))])), (TWO, O, (-7, 1)))
