@@ -231,6 +231,12 @@ class Refused(unittest.TestCase):
                         call(claim)
                     self.assertEqual(repr(caught.exception.word), repr(word))
 
+    def test_what_the_error_keeps_is_made_of_tuples(self):
+        for call in self.FUNCTIONS:
+            with self.assertRaises(NoWord) as caught:
+                call([["cuts", [1, 2]], SHOP])
+            self.assertEqual(repr(caught.exception.word), repr(("cuts", (1, 2))))
+
     def test_a_thing_too_many_or_too_few(self):
         for call in self.FUNCTIONS:
             for claim in CLAIMS[::2] + [("cuts", WORN, (ONE, ())), GOES[0][:6] + (BAD_STAND,)]:

@@ -342,6 +342,15 @@ class Stretches(unittest.TestCase):
                                         bent(Fraction(1, 2), Fraction(0), [(one, Fraction(1, 6)), (Fraction(3), one), (one, Fraction(1, 6))])),
                          ((1, 6), (1, 3), HALF))
 
+    def test_the_least_start_is_not_the_first_found(self):
+        one, two = Fraction(1), Fraction(2)
+        rod = bent(Fraction(0), Fraction(0), [(one, Fraction(3)), (two, one)])
+        other = bent(Fraction(0), Fraction(0), [(one, Fraction(2)), (two, one), (Fraction(3), one), (one, Fraction(5))])
+        # as long: over the bend from 1 on, and along the one lead from 0 on
+        self.assertEqual(self.common_by_hand(rod, other), (THREE, O, (4, 1)))
+        self.assertEqual(common_stretch(rod, other), (THREE, O, (4, 1)))
+        self.assertEqual(common_stretch(other, rod), (THREE, O, ONE))
+
     def test_wrong_stretches(self):
         for pieces in PIECES:
             leads = {told(own[0][1]) for own in pieces}

@@ -307,6 +307,15 @@ class Views(unittest.TestCase):
         bare = tuple(sorted((pair(Fraction(own, 5) + Fraction(1, 9)), pair(Fraction(own, 24))) for own in range(24)))
         self.assertTrue(is_lines((deep_points, bare), kinds, least_lines((deep_points, bare), kinds)))
 
+    def test_more_lots_than_can_be_told_one_by_one(self):
+        points = tuple(sorted((pair(Fraction(own ** 3 + 1, 7 + own)), pair(Fraction(own + 1, 23))) for own in range(12)))
+        kinds = ("ring", "flute", ONE, (-1, 1), HALF, (3, 2))
+        # no LINE goes through two of them: 6 ** 12 LOTS
+        lines = lines_through((points, ()), kinds)
+        self.assertEqual(len(lines), 72)
+        self.assertEqual(least_lines((points, ()), kinds), tuple(("flute", (own, 23)) for own in range(1, 13)))
+        self.assertRaises(TooMany, next_point, (points, ()), kinds, points)
+
     def test_400_lots_and_more(self):
         def view_of(many):
             return tuple(sorted((pair(Fraction(own)), pair(Fraction(own, many))) for own in range(many)))
