@@ -7,6 +7,7 @@ from fractions import Fraction
 
 from screwshop.bars import depth_at, is_bar, is_plain, plain_bar
 from screwshop.board import Board
+from screwshop.dials import closings_apart, first_at_mark, how_many_lines, line_at_count
 from screwshop.errors import NoClosing, NothingDone, Unfit
 from screwshop.passes import bar_after, closes_at, cut_groove, dial_shows, next_closing, run_out
 from tests.support import listed
@@ -262,6 +263,25 @@ class Deeds(unittest.TestCase):
                 groove = cut_groove(lathe, cuts[-1])
                 self.assertGreaterEqual(depth_at(board.bar_now(), (end, pair(told(board.stand_now()[0]) % 1))), groove[3])
             self.assertEqual(board.bar_now(), bar_after(lathe, (pair(3 * told(lathe[0])), ()), tuple(cuts)))
+
+
+    def test_as_the_functions_of_dials_say(self):
+        met = {True: 0, False: 0}
+        for lathe in LATHES:
+            apart, teeth = closings_apart(lathe), lathe[2][0]
+            board = Board(lathe, lathe[0])
+            for _ in range(2 * teeth):
+                turned, place = board.stand_now()
+                count, (shown, mark) = closes_at(lathe, turned, place), board.dial_now()
+                self.assertEqual(told(shown) * teeth % teeth, count % teeth)
+                marks = [own for own in range(lathe[2][1]) if first_at_mark(lathe, own) == count % teeth]
+                self.assertEqual(marks, [] if mark is None else [mark])
+                met[mark is None] += 1
+                board.cut_to(lathe[0] if place == O else O, 1)
+                self.assertIn(line_at_count(lathe, count), [groove[0] for groove in board.bar_now()[1]])
+                board.do(("spin", apart))
+            self.assertEqual(len(board.bar_now()[1]), min(how_many_lines(lathe), 2 * teeth))
+        self.assertTrue(min(met.values()) > 10, met)
 
 
 class Objects(unittest.TestCase):

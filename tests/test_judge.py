@@ -231,6 +231,13 @@ class Refused(unittest.TestCase):
                         call(claim)
                     self.assertEqual(repr(caught.exception.word), repr(word))
 
+    def test_an_empty_tuple_has_no_word(self):
+        for call in self.FUNCTIONS:
+            for claim in ((), []):
+                with self.assertRaises(NoWord) as caught:
+                    call(claim)
+                self.assertIsNone(caught.exception.word)
+
     def test_what_the_error_keeps_is_made_of_tuples(self):
         for call in self.FUNCTIONS:
             with self.assertRaises(NoWord) as caught:
